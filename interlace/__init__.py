@@ -1,0 +1,1 @@
+"""An interlace artist's desk: panels, strands, weaves, marks, mends."""
