@@ -1,35 +1,28 @@
 """The calls of the desk: each answers a list of whole numbers, and keeps nothing."""
 
-from interlace.shape import HIGH_AT, MOST_SIDE, MOST_SIGN, PLACES_AT, WIDE_AT
+from interlace.drawings import draw, find_drawing_fault, read_panel
+from interlace.ends import count_ends, count_pieces, find_joined
+from interlace.refusals import NOT_RIGHT, NOT_SO, NOT_THERE, TOO_LONG, WRONG_SIGN
+from interlace.refusals import find_refusal, is_too_long
+from interlace.shape import CROSSING, HIGH_AT, MOST_SIDE, MOST_SIGN, PLACES_AT, WIDE_AT
 from interlace.shape import count_places, find_fault, find_place, find_square_beyond, find_squares, is_inside
-
-MOST_BYTES = 1024
-
-WRONG_SIGN = -1
-TOO_LONG = -2
-NOT_THERE = -4
-AT_BORDER = -5
-NO_PANEL = -6
+from interlace.tracing import count_strands, list_strands
 
 
-def find_refusal(b):
-    """Give the number by which every call but judge refuses b, or 0."""
-    if len(b) > MOST_BYTES:
-        return TOO_LONG
-    if find_fault(b) is not None:
-        return NO_PANEL
-    return 0
+def tell_list(numbers):
+    """Give how many numbers there are, then the numbers."""
+    return [len(numbers)] + numbers
 
 
 def judge(b):
     """Answer 0 for a right panel's bytes, else -6, the kind of the first fault and its place."""
     # Length is told first, so that a fault is never told of too many bytes.
-    if len(b) > MOST_BYTES:
+    if is_too_long(b):
         return [TOO_LONG]
     fault = find_fault(b)
     if fault is None:
         return [0]
-    return [NO_PANEL, fault[0], fault[1]]
+    return [NOT_RIGHT, fault[0], fault[1]]
 
 
 def size(b):
@@ -39,7 +32,7 @@ def size(b):
         return [refusal]
     wide = b[WIDE_AT]
     high = b[HIGH_AT]
-    return [0, wide, high, count_places(wide, high), b[PLACES_AT:].count(0)]
+    return [0, wide, high, count_places(wide, high), b[PLACES_AT:].count(CROSSING)]
 
 
 def place(x, y, k, b):
@@ -53,7 +46,7 @@ def place(x, y, k, b):
         return [NOT_THERE]
     beyond = find_square_beyond(x, y, k, wide, high)
     if beyond is None:
-        return [AT_BORDER]
+        return [NOT_SO]
     p = find_place(x, y, k, wide, high)
     return [0, p, b[PLACES_AT + p], beyond]
 
@@ -82,4 +75,50 @@ def set_it(p, z, b):
         return [NOT_THERE]
     changed = list(b)
     changed[PLACES_AT + p] = z
-    return [len(changed)] + changed
+    return tell_list(changed)
+
+
+def joined(e, b):
+    """Answer the end that end e is joined with."""
+    refusal = find_refusal(b)
+    if refusal < 0:
+        return [refusal]
+    if e >= count_ends(b):
+        return [NOT_THERE]
+    return [find_joined(e, b)]
+
+
+def print_of(b):
+    """Answer how many bytes the drawing of the panel has, then these bytes."""
+    refusal = find_refusal(b)
+    if refusal < 0:
+        return [refusal]
+    return tell_list(draw(b))
+
+
+def read(t):
+    """Answer how many bytes the panel drawn has, then these bytes; or -6 and the place of the drawing's fault."""
+    if is_too_long(t):
+        return [TOO_LONG]
+    fault = find_drawing_fault(t)
+    if fault is not None:
+        return [NOT_RIGHT, fault]
+    return tell_list(read_panel(t))
+
+
+def strands(b):
+    """Answer how many strands there are."""
+    refusal = find_refusal(b)
+    if refusal < 0:
+        return [refusal]
+    return [count_strands(b)]
+
+
+def strand_of(i, b):
+    """Answer the strand of piece i."""
+    refusal = find_refusal(b)
+    if refusal < 0:
+        return [refusal]
+    if i >= count_pieces(b):
+        return [NOT_THERE]
+    return [list_strands(b)[i]]

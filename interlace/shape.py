@@ -8,6 +8,10 @@ MOST_SQUARES = 8
 MOST_SIGN = 2
 MOST_SIDE = 3
 
+CROSSING = 0
+ALONG = 1
+ACROSS = 2
+
 # By side (upper, right, lower, left): how far the square beyond lies to the right, and down.
 STEPS = ((0, -1), (1, 0), (0, 1), (-1, 0))
 
@@ -15,6 +19,11 @@ STEPS = ((0, -1), (1, 0), (0, 1), (-1, 0))
 def count_uprights(wide, high):
     """Count the places between squares of one row."""
     return (wide - 1) * high
+
+
+def count_squares(b):
+    """Count the squares of a right panel."""
+    return b[WIDE_AT] * b[HIGH_AT]
 
 
 def count_places(wide, high):

@@ -1,4 +1,6 @@
-"""What the tests share: panels, places in the document's order, and lists that can't be changed."""
+"""What the tests share: panels, what stands in them told anew from the document, and lists that can't be changed."""
+
+import itertools
 
 HEAD = [0x50, 0x4C, 0x50, 0x31]
 MOST_NUMBER = 4294967295
@@ -28,6 +30,45 @@ def panel(wide, high, start=0):
     return HEAD + [wide, high] + signs(len(listed_places(wide, high)), start)
 
 
+def mixed(wide, high, seed):
+    """A panel without a pattern; the higher of three seeds have more crossings than breaks."""
+    turn = [[0, 1, 2], [0, 0, 1, 2], [0, 0, 0, 0, 0, 1, 2]][seed % 3]
+    state = seed * 7919 + wide * 101 + high * 13
+    found = []
+    for _ in listed_places(wide, high):
+        state = (state * 1103515245 + 12345) % 2147483648
+        found.append(turn[state // 65536 % len(turn)])
+    return HEAD + [wide, high] + found
+
+
+def uniform(wide, high, sign):
+    return HEAD + [wide, high] + [sign] * len(listed_places(wide, high))
+
+
+def mixed_panels(seeds=3):
+    """Panels of every size, with a pattern and without one."""
+    found = []
+    for wide, high in ALL_SIZES:
+        found.append(panel(wide, high))
+        found.extend(mixed(wide, high, seed) for seed in range(seeds))
+    return found
+
+
+def uniform_panels():
+    """Of every size the panels with crossings alone, with breaks along alone, with breaks across alone."""
+    return [uniform(wide, high, sign) for wide, high in ALL_SIZES for sign in (0, 1, 2)]
+
+
+def small_panels(most_places=4):
+    """All panels of so few places."""
+    found = []
+    for wide, high in ALL_SIZES:
+        count = len(listed_places(wide, high))
+        if count <= most_places:
+            found.extend(HEAD + [wide, high] + list(row) for row in itertools.product((0, 1, 2), repeat=count))
+    return found
+
+
 def bad_panels():
     """Bytes of 1,024 at most that are no right panel's."""
     right = panel(3, 2)
@@ -55,9 +96,103 @@ def long_bytes():
     ]
 
 
+def end_points(e, wide):
+    """Where end e lies and where the other end of its piece lies, in halves of a square."""
+    middles = [(1, 0), (2, 1), (1, 2), (0, 1)]
+    s, d, last = e // 8, e % 8 // 2, e % 2
+    points = [(s % wide * 2 + x, s // wide * 2 + y) for x, y in (middles[d], middles[(d + 1) % 4])]
+    return points[last], points[1 - last]
+
+
+def place_points(wide, high):
+    """The places by the points they lie at, in halves of a square."""
+    return {
+        (first % wide + other % wide + 1, first // wide + other // wide + 1): p
+        for p, (first, other) in enumerate(listed_places(wide, high))
+    }
+
+
+def fits(e, f, sign, wide):
+    """Whether two ends that lie at one point are joined there, by how their pieces run and not by their numbers."""
+    here, before = end_points(e, wide)
+    _, behind = end_points(f, wide)
+    straight = (before[0] + behind[0], before[1] + behind[1]) == (2 * here[0], 2 * here[1])
+    if sign == 1:
+        return e != f and e // 8 == f // 8
+    return e // 8 != f // 8 and straight == (sign == 0)
+
+
+def joined_ends(b):
+    """The end that each end is joined with, by the ends."""
+    wide, high = b[4], b[5]
+    places = place_points(wide, high)
+    at_point = {}
+    for e in range(8 * wide * high):
+        at_point.setdefault(end_points(e, wide)[0], []).append(e)
+    found = {}
+    for point, ends in at_point.items():
+        sign = b[6 + places[point]] if point in places else 1
+        for e in ends:
+            (found[e],) = [f for f in ends if fits(e, f, sign, wide)]
+    return found
+
+
+def hung_together(count, ties):
+    """The sets of the numbers below count that hang together by ties, in the order of their least ones."""
+    beside = {i: set() for i in range(count)}
+    for i, j in ties:
+        beside[i].add(j)
+        beside[j].add(i)
+    found = []
+    left = set(range(count))
+    while left:
+        together = set()
+        reached = {min(left)}
+        while reached:
+            together |= reached
+            reached = set().union(*(beside[i] for i in reached)) - together
+        found.append(together)
+        left -= together
+    return found
+
+
+def strand_pieces(b):
+    """The set of pieces of each strand, by the strands' numbers."""
+    return hung_together(4 * b[4] * b[5], [(e // 2, f // 2) for e, f in joined_ends(b).items()])
+
+
 def plain(answer):
     """Whether an answer is a list of ints, none of them True or False."""
     return type(answer) is list and all(type(number) is int for number in answer)
+
+
+# Of each call its arguments, and rows of numbers to hand in, of which some are wrong.
+CALLS = {
+    "judge": ("b", [()]),
+    "size": ("b", [()]),
+    "place": ("xykb", [(0, 0, 1), (0, 0, 2), (1, 1, 0), (1, 1, 3), (0, 0, 0), (8, 8, 4), (MOST_NUMBER,) * 3]),
+    "squares": ("pb", [(0,), (1,), (6,), (111,), (MOST_NUMBER,)]),
+    "set_it": ("pzb", [(0, 0), (0, 1), (1, 2), (6, 0), (111, 2), (0, 3), (MOST_NUMBER, 2), (MOST_NUMBER,) * 2]),
+    "joined": ("eb", [(0,), (1,), (7,), (8,), (511,), (512,), (MOST_NUMBER,)]),
+    "print_of": ("b", [()]),
+    "read": ("t", [()]),
+    "strands": ("b", [()]),
+    "strand_of": ("ib", [(0,), (3,), (4,), (255,), (256,), (MOST_NUMBER,)]),
+}
+
+
+def drawing(b):
+    """The drawing of a panel, put together from texts."""
+    wide, high = b[4], b[5]
+    uprights = ["x|-"[z] for z in b[6:6 + (wide - 1) * high]] + [""]
+    levels = ["x-|"[z] for z in b[6 + (wide - 1) * high:]]
+    lines = []
+    for y in range(high):
+        if y > 0:
+            lines.append(" ".join(levels[(y - 1) * wide:y * wide]))
+        row = uprights[y * (wide - 1):(y + 1) * (wide - 1)]
+        lines.append("o" + "".join(sign + "o" for sign in row))
+    return list("".join(line + "\n" for line in lines).encode("ascii"))
 
 
 class Kept(list):

@@ -27,6 +27,12 @@ setdefault split splitlines startswith strip update upper values zfill bit_lengt
 WORDS = """type typing typing_extensions enum Enum IntEnum StrEnum Flag IntFlag Generic Protocol ABC ABCMeta
 namedtuple NamedTuple TypedDict TYPE_CHECKING abstractmethod""".split()
 PARTS_OF_WORDS = ("dataclass", "overload", "contextmanager")
+UNUSED_NAMES = set("""register mro elements open input version_info with_traceback add_note attrgetter breakpoint
+builtins compile copyright credits delattr dir eval exec exit gc getattr globals hasattr help id importlib license
+locals methodcaller os quit setattr super type vars sys __name__ format format_map""".split())
+WALKED_AT_ONCE = {"zip", "enumerate", "reversed", "range", "items", "keys", "values"}
+WALKERS = {"list", "tuple", "dict", "sorted", "sum", "any", "all", "enumerate", "zip", "min", "max", "join"}
+CHANGES = {"append", "clear", "extend", "insert", "pop", "remove", "reverse", "setdefault", "update"}
 
 
 def package_files():
@@ -55,6 +61,18 @@ def bound_names(nodes):
         elif isinstance(node, ast.alias):
             found.append(node.asname or node.name)
     return found
+
+
+def called_name(node):
+    """The name of the function or method that is called there, if any."""
+    if not isinstance(node, ast.Call):
+        return None
+    return getattr(node.func, "id", getattr(node.func, "attr", None))
+
+
+def drawn_modules(name):
+    """The files of the package that a file draws from."""
+    return [node.module.split(".")[1] + ".py" for node in nodes_of(name) if isinstance(node, ast.ImportFrom)]
 
 
 class Files(unittest.TestCase):
@@ -104,6 +122,60 @@ class Forms(unittest.TestCase):
                 if isinstance(node, (ast.For, ast.While)):
                     self.assertEqual(node.orelse, [], where)
 
+    def test_narrower_forms(self):
+        for name in package_files():
+            for node in nodes_of(name):
+                where = (name, getattr(node, "lineno", 0))
+                if isinstance(node, ast.Compare) and isinstance(node.ops[0], (ast.Is, ast.IsNot)):
+                    self.assertIsInstance(node.comparators[0], ast.Constant, where)
+                if isinstance(node, ast.ListComp):
+                    self.assertEqual(len(node.generators), 1, where)
+                    self.assertLessEqual(len(node.generators[0].ifs), 1, where)
+                if isinstance(node, ast.Constant) and isinstance(node.value, str):
+                    self.assertNotIn("%", node.value, where)
+                self.assertNotIsInstance(node, (ast.Set, ast.Pow, ast.AnnAssign), where)
+                self.assertNotIn(called_name(node), ("set", "frozenset"), where)
+                self.assertIsNone(getattr(node, "annotation", None) or getattr(node, "returns", None), where)
+
+    def test_walked_at_once(self):
+        for name in package_files():
+            nodes = nodes_of(name)
+            walked = [node.iter for node in nodes if isinstance(node, (ast.For, ast.comprehension))]
+            for node in nodes:
+                if called_name(node) in WALKERS:
+                    walked.extend(node.args)
+            for node in nodes:
+                if called_name(node) in WALKED_AT_ONCE:
+                    self.assertIn(node, walked, (name, node.lineno))
+
+    def test_what_a_loop_walks_is_not_changed_in_it(self):
+        for name in package_files():
+            for loop in nodes_of(name):
+                if not isinstance(loop, ast.For):
+                    continue
+                walked = {node.id for node in ast.walk(loop.iter) if isinstance(node, ast.Name)}
+                for node in [inner for row in loop.body for inner in ast.walk(row)]:
+                    changed = node.func.value if called_name(node) in CHANGES else None
+                    if isinstance(node, ast.Subscript) and isinstance(node.ctx, ast.Store):
+                        changed = node.value
+                    self.assertNotIn(getattr(changed, "id", None), walked, (name, loop.lineno))
+
+    def test_the_top_of_a_file(self):
+        for name in package_files():
+            rows = ast.parse(text_of(name)).body
+            self.assertIsInstance(rows[0], ast.Expr, name)
+            bound = []
+            for row in rows[1:]:
+                self.assertIsInstance(row, (ast.ImportFrom, ast.FunctionDef, ast.ClassDef, ast.Assign), name)
+                if isinstance(row, ast.Assign):
+                    bound.append(row.targets[0].id)
+                    self.assertNotIsInstance(row.value, (ast.List, ast.Dict), (name, row.lineno))
+                elif isinstance(row, ast.ImportFrom):
+                    bound.extend(drawn.name for drawn in row.names)
+                else:
+                    bound.append(row.name)
+            self.assertEqual(len(bound), len(set(bound)), name)
+
     def test_functions(self):
         for name in package_files():
             for node in nodes_of(name):
@@ -124,7 +196,39 @@ class Forms(unittest.TestCase):
                         self.assertRegex(source, rf"(?m)^((def|class) )?{drawn.name}\b", (name, drawn.name))
 
 
+    def test_no_two_files_draw_from_one_another(self):
+        for name in package_files():
+            reached = set()
+            coming = set(drawn_modules(name))
+            while coming - reached:
+                reached |= coming
+                coming = {far for near in coming for far in drawn_modules(near)}
+            self.assertNotIn(name, reached)
+
+    def test_what_is_drawn_from_a_file_is_used(self):
+        for name in package_files():
+            nodes = nodes_of(name)
+            used = {node.id for node in nodes if isinstance(node, ast.Name)}
+            for node in nodes:
+                if isinstance(node, ast.ImportFrom):
+                    self.assertLessEqual({drawn.name for drawn in node.names}, used, name)
+
+
 class Names(unittest.TestCase):
+    def test_no_local_is_called_like_an_import(self):
+        for name in package_files():
+            nodes = nodes_of(name)
+            drawn = {far.name for node in nodes if isinstance(node, ast.ImportFrom) for far in node.names}
+            held = [node for node in nodes if not isinstance(node, ast.alias)]
+            self.assertEqual(drawn & set(bound_names(held)), set(), name)
+
+    def test_names_that_are_not_used(self):
+        for name in package_files():
+            nodes = nodes_of(name)
+            names = set(bound_names(nodes)) | {node.id for node in nodes if isinstance(node, ast.Name)}
+            names |= {node.attr for node in nodes if isinstance(node, ast.Attribute)}
+            self.assertEqual(names & UNUSED_NAMES, set(), name)
+
     def test_bound_names(self):
         for name in package_files():
             for bound in bound_names(nodes_of(name)):
