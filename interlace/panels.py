@@ -1,12 +1,14 @@
 """The calls of the desk: each answers a list of whole numbers, and keeps nothing."""
 
+from interlace.crossings import count_crossings_with_others, find_crossed, list_meetings
 from interlace.drawings import draw, find_drawing_fault, read_panel
 from interlace.ends import count_ends, count_pieces, find_joined
+from interlace.hanging import count_parts
 from interlace.refusals import NOT_RIGHT, NOT_SO, NOT_THERE, TOO_LONG, WRONG_SIGN
-from interlace.refusals import find_refusal, is_too_long
+from interlace.refusals import find_crossing_refusal, find_place_refusal, find_refusal, find_strand_refusal, is_too_long
 from interlace.shape import CROSSING, HIGH_AT, MOST_SIDE, MOST_SIGN, PLACES_AT, WIDE_AT
 from interlace.shape import count_places, find_fault, find_place, find_square_beyond, find_squares, is_inside
-from interlace.tracing import count_strands, list_strands
+from interlace.tracing import count_strands, list_courses, list_strands
 
 
 def tell_list(numbers):
@@ -53,14 +55,10 @@ def place(x, y, k, b):
 
 def squares(p, b):
     """Answer 0, the left or upper square at place p, the other."""
-    refusal = find_refusal(b)
+    refusal = find_place_refusal(p, b)
     if refusal < 0:
         return [refusal]
-    wide = b[WIDE_AT]
-    high = b[HIGH_AT]
-    if p >= count_places(wide, high):
-        return [NOT_THERE]
-    pair = find_squares(p, wide, high)
+    pair = find_squares(p, b[WIDE_AT], b[HIGH_AT])
     return [0, pair[0], pair[1]]
 
 
@@ -122,3 +120,46 @@ def strand_of(i, b):
     if i >= count_pieces(b):
         return [NOT_THERE]
     return [list_strands(b)[i]]
+
+
+def strand(k, b):
+    """Answer 0, strand k's least piece, how many pieces it has, how many crossings with others, with itself."""
+    refusal = find_strand_refusal(k, b)
+    if refusal < 0:
+        return [refusal]
+    entered = list_courses(b)[k]
+    # A course begins at the first end of the strand's least piece.
+    return [0, entered[0] // 2, len(entered), count_crossings_with_others(k, b), len(list_meetings(k, k, b))]
+
+
+def course(k, b):
+    """Answer how many pieces strand k has, then the ends at which they are entered along its course."""
+    refusal = find_strand_refusal(k, b)
+    if refusal < 0:
+        return [refusal]
+    return tell_list(list_courses(b)[k])
+
+
+def crossed(p, b):
+    """Answer 0, the two strands of the crossing at place p."""
+    refusal = find_crossing_refusal(p, b)
+    if refusal < 0:
+        return [refusal]
+    pair = find_crossed(p, b)
+    return [0, pair[0], pair[1]]
+
+
+def meets(i, j, b):
+    """Answer at how many places strands i and j cross, then these places."""
+    refusal = find_strand_refusal(max(i, j), b)
+    if refusal < 0:
+        return [refusal]
+    return tell_list(list_meetings(i, j, b))
+
+
+def parts(b):
+    """Answer how many parts the crossings have."""
+    refusal = find_refusal(b)
+    if refusal < 0:
+        return [refusal]
+    return [count_parts(b)]

@@ -1,6 +1,8 @@
 """By which number a call is refused, ahead of what it has to say itself."""
 
-from interlace.shape import find_fault
+from interlace.shape import CROSSING, HIGH_AT, PLACES_AT, WIDE_AT
+from interlace.shape import count_places, find_fault
+from interlace.tracing import count_strands
 
 MOST_NUMBERS = 1024
 
@@ -22,4 +24,34 @@ def find_refusal(b):
         return TOO_LONG
     if find_fault(b) is not None:
         return NOT_RIGHT
+    return 0
+
+
+def find_place_refusal(p, b):
+    """Give the number by which b or place p is refused, or 0."""
+    refusal = find_refusal(b)
+    if refusal < 0:
+        return refusal
+    if p >= count_places(b[WIDE_AT], b[HIGH_AT]):
+        return NOT_THERE
+    return 0
+
+
+def find_crossing_refusal(p, b):
+    """Give the number by which b or the crossing at place p is refused, or 0."""
+    refusal = find_place_refusal(p, b)
+    if refusal < 0:
+        return refusal
+    if b[PLACES_AT + p] != CROSSING:
+        return NOT_SO
+    return 0
+
+
+def find_strand_refusal(k, b):
+    """Give the number by which b or strand k is refused, or 0."""
+    refusal = find_refusal(b)
+    if refusal < 0:
+        return refusal
+    if k >= count_strands(b):
+        return NOT_THERE
     return 0

@@ -31,8 +31,8 @@ def panel(wide, high, start=0):
 
 
 def mixed(wide, high, seed):
-    """A panel without a pattern; the higher of three seeds have more crossings than breaks."""
-    turn = [[0, 1, 2], [0, 0, 1, 2], [0, 0, 0, 0, 0, 1, 2]][seed % 3]
+    """A panel without a pattern; by the seed crossings are as many as other breaks, more, most, or few."""
+    turn = [[0, 1, 2], [0, 0, 1, 2], [0, 0, 0, 0, 0, 1, 2], [0, 1, 1, 2]][seed % 4]
     state = seed * 7919 + wide * 101 + high * 13
     found = []
     for _ in listed_places(wide, high):
@@ -45,7 +45,7 @@ def uniform(wide, high, sign):
     return HEAD + [wide, high] + [sign] * len(listed_places(wide, high))
 
 
-def mixed_panels(seeds=3):
+def mixed_panels(seeds=4):
     """Panels of every size, with a pattern and without one."""
     found = []
     for wide, high in ALL_SIZES:
@@ -161,6 +161,32 @@ def strand_pieces(b):
     return hung_together(4 * b[4] * b[5], [(e // 2, f // 2) for e, f in joined_ends(b).items()])
 
 
+def crossed_strands(b):
+    """The two strands of each crossing, by its place, found by where the ends of the square before it lie."""
+    wide, high = b[4], b[5]
+    of_piece = {i: number for number, pieces in enumerate(strand_pieces(b)) for i in pieces}
+    points = {p: point for point, p in place_points(wide, high).items()}
+    found = {}
+    for p, (first, _) in enumerate(listed_places(wide, high)):
+        if b[6 + p] == 0:
+            begins, ends = [
+                i for last in (0, 1) for i in range(4 * first, 4 * first + 4)
+                if end_points(2 * i + last, wide)[0] == points[p]
+            ]
+            found[p] = (of_piece[begins], of_piece[ends])
+    return found
+
+
+def crossing_parts(b):
+    """The places of each part's crossings, by the parts' numbers."""
+    pairs = crossed_strands(b)
+    places = sorted(pairs)
+    ties = [
+        (i, j) for i, p in enumerate(places) for j, q in enumerate(places) if set(pairs[p]) & set(pairs[q])
+    ]
+    return [sorted(places[i] for i in together) for together in hung_together(len(places), ties)]
+
+
 def plain(answer):
     """Whether an answer is a list of ints, none of them True or False."""
     return type(answer) is list and all(type(number) is int for number in answer)
@@ -178,6 +204,11 @@ CALLS = {
     "read": ("t", [()]),
     "strands": ("b", [()]),
     "strand_of": ("ib", [(0,), (3,), (4,), (255,), (256,), (MOST_NUMBER,)]),
+    "strand": ("kb", [(0,), (1,), (5,), (64,), (MOST_NUMBER,)]),
+    "course": ("kb", [(0,), (1,), (5,), (64,), (MOST_NUMBER,)]),
+    "crossed": ("pb", [(0,), (1,), (2,), (6,), (111,), (112,), (MOST_NUMBER,)]),
+    "meets": ("ijb", [(0, 0), (0, 1), (1, 0), (2, 2), (0, 64), (64, 0), (MOST_NUMBER, MOST_NUMBER)]),
+    "parts": ("b", [()]),
 }
 
 
