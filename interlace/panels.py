@@ -1,14 +1,16 @@
 """The calls of the desk: each answers a list of whole numbers, and keeps nothing."""
 
-from interlace.crossings import count_crossings_with_others, find_crossed, list_meetings
+from interlace.crossings import count_crossings_with_others, find_crossed, list_crossings, list_meetings
 from interlace.drawings import draw, find_drawing_fault, read_panel
 from interlace.ends import count_ends, count_pieces, find_joined
-from interlace.hanging import count_parts
-from interlace.refusals import NOT_RIGHT, NOT_SO, NOT_THERE, TOO_LONG, WRONG_SIGN
-from interlace.refusals import find_crossing_refusal, find_place_refusal, find_refusal, find_strand_refusal, is_too_long
+from interlace.hanging import count_parts, list_parts
+from interlace.refusals import NOT_RIGHT, NOT_SO, NOT_THERE, TOO_LONG, WRONG_LIST, WRONG_SIGN
+from interlace.refusals import are_bits, find_crossing_refusal, find_list_refusal, find_place_refusal, find_refusal
+from interlace.refusals import find_strand_refusal, find_weave_refusal, is_too_long
 from interlace.shape import CROSSING, HIGH_AT, MOST_SIDE, MOST_SIGN, PLACES_AT, WIDE_AT
 from interlace.shape import count_places, find_fault, find_place, find_square_beyond, find_squares, is_inside
 from interlace.tracing import count_strands, list_courses, list_strands
+from interlace.weaves import find_over, find_wrong_strand, make_weave, mend_weave
 
 
 def tell_list(numbers):
@@ -163,3 +165,53 @@ def parts(b):
     if refusal < 0:
         return [refusal]
     return [count_parts(b)]
+
+
+def part(p, b):
+    """Answer the part of the crossing at place p."""
+    refusal = find_crossing_refusal(p, b)
+    if refusal < 0:
+        return [refusal]
+    return [list_parts(b)[list_crossings(b).index(p)]]
+
+
+def weave(b, c):
+    """Answer how many bits the weave has that is made by the choice c, then these bits."""
+    refusal = find_list_refusal(b, c)
+    if refusal < 0:
+        return [refusal]
+    if not are_bits(c, count_parts(b)):
+        return [WRONG_LIST]
+    return tell_list(make_weave(b, c))
+
+
+def turns(b, w):
+    """Answer 1 if the weave w takes turns, else 0 and what is wrong first: the strand, two crossings."""
+    refusal = find_weave_refusal(b, w)
+    if refusal < 0:
+        return [refusal]
+    wrong = find_wrong_strand(b, w)
+    if wrong is None:
+        return [1]
+    return [0, wrong[0], wrong[1], wrong[2]]
+
+
+def over(p, b, w):
+    """Answer the strand that is over at place p in the weave w."""
+    refusal = find_weave_refusal(b, w)
+    if refusal < 0:
+        return [refusal]
+    refusal = find_crossing_refusal(p, b)
+    if refusal < 0:
+        return [refusal]
+    return [find_over(p, b, w)]
+
+
+def mend(b, w):
+    """Answer how many bits of the weave w are changed when it is mended, then the mended weave's bits."""
+    refusal = find_weave_refusal(b, w)
+    if refusal < 0:
+        return [refusal]
+    mended = mend_weave(b, w)
+    changed = [bit for bit, other in zip(w, mended) if bit != other]
+    return [len(changed)] + mended

@@ -1,5 +1,6 @@
 """By which number a call is refused, ahead of what it has to say itself."""
 
+from interlace.crossings import list_crossings
 from interlace.shape import CROSSING, HIGH_AT, PLACES_AT, WIDE_AT
 from interlace.shape import count_places, find_fault
 from interlace.tracing import count_strands
@@ -11,6 +12,7 @@ TOO_LONG = -2
 NOT_THERE = -4
 NOT_SO = -5
 NOT_RIGHT = -6
+WRONG_LIST = -9
 
 
 def is_too_long(numbers):
@@ -54,4 +56,26 @@ def find_strand_refusal(k, b):
         return refusal
     if k >= count_strands(b):
         return NOT_THERE
+    return 0
+
+
+def are_bits(numbers, count):
+    """Tell whether these are so many numbers, each 0 or 1."""
+    return len(numbers) == count and all([number in (0, 1) for number in numbers])
+
+
+def find_list_refusal(b, numbers):
+    """Give the number by which b, or a list beside it for its length, is refused, or 0."""
+    if is_too_long(numbers):
+        return TOO_LONG
+    return find_refusal(b)
+
+
+def find_weave_refusal(b, w):
+    """Give the number by which b or the weave w is refused, or 0."""
+    refusal = find_list_refusal(b, w)
+    if refusal < 0:
+        return refusal
+    if not are_bits(w, len(list_crossings(b))):
+        return WRONG_LIST
     return 0

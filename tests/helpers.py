@@ -96,6 +96,18 @@ def long_bytes():
     ]
 
 
+def told_once(tell):
+    """What is told of a panel, found out once: many tests ask it of the same panels, and none changes it."""
+    told = {}
+
+    def ask(b):
+        if tuple(b) not in told:
+            told[tuple(b)] = tell(b)
+        return told[tuple(b)]
+
+    return ask
+
+
 def end_points(e, wide):
     """Where end e lies and where the other end of its piece lies, in halves of a square."""
     middles = [(1, 0), (2, 1), (1, 2), (0, 1)]
@@ -122,6 +134,7 @@ def fits(e, f, sign, wide):
     return e // 8 != f // 8 and straight == (sign == 0)
 
 
+@told_once
 def joined_ends(b):
     """The end that each end is joined with, by the ends."""
     wide, high = b[4], b[5]
@@ -156,11 +169,13 @@ def hung_together(count, ties):
     return found
 
 
+@told_once
 def strand_pieces(b):
     """The set of pieces of each strand, by the strands' numbers."""
     return hung_together(4 * b[4] * b[5], [(e // 2, f // 2) for e, f in joined_ends(b).items()])
 
 
+@told_once
 def crossed_strands(b):
     """The two strands of each crossing, by its place, found by where the ends of the square before it lie."""
     wide, high = b[4], b[5]
@@ -177,6 +192,7 @@ def crossed_strands(b):
     return found
 
 
+@told_once
 def crossing_parts(b):
     """The places of each part's crossings, by the parts' numbers."""
     pairs = crossed_strands(b)
@@ -185,6 +201,51 @@ def crossing_parts(b):
         (i, j) for i, p in enumerate(places) for j, q in enumerate(places) if set(pairs[p]) & set(pairs[q])
     ]
     return [sorted(places[i] for i in together) for together in hung_together(len(places), ties)]
+
+
+@told_once
+def walked_passes(b):
+    """Of each strand, by its number, the crossings it passes: the place, and 1 if left at a piece's end, else 0."""
+    wide, high = b[4], b[5]
+    joined = joined_ends(b)
+    places = {point: p for point, p in place_points(wide, high).items() if b[6 + p] == 0}
+    found = []
+    for pieces in strand_pieces(b):
+        passes = []
+        entered = 2 * min(pieces)
+        for _ in pieces:
+            point = end_points(entered ^ 1, wide)[0]
+            if point in places:
+                passes.append((places[point], (entered ^ 1) % 2))
+            entered = joined[entered ^ 1]
+        found.append(passes)
+    return found
+
+
+def all_bits(count):
+    """All lists of so many bits."""
+    return [list(row) for row in itertools.product((0, 1), repeat=count)]
+
+
+def some_bits(count, seed):
+    """So many bits without a pattern."""
+    state = seed * 7919 + count
+    found = []
+    for _ in range(count):
+        state = (state * 1103515245 + 12345) % 2147483648
+        found.append(state // 65536 % 2)
+    return found
+
+
+def wrong_bits(count):
+    """Lists that are not so many numbers, each 0 or 1."""
+    found = [[0] * (count + 1), [1] * (count + 1), [0] * 1024, [2] * (count + 1)]
+    if count > 0:
+        found += [[0] * (count - 1), [1] * (count - 1)]
+    for at in {0, count // 2, count - 1} if count > 0 else ():
+        for number in (2, 3, 256, MOST_NUMBER):
+            found.append([0] * at + [number] + [1] * (count - at - 1))
+    return found
 
 
 def plain(answer):
@@ -209,7 +270,31 @@ CALLS = {
     "crossed": ("pb", [(0,), (1,), (2,), (6,), (111,), (112,), (MOST_NUMBER,)]),
     "meets": ("ijb", [(0, 0), (0, 1), (1, 0), (2, 2), (0, 64), (64, 0), (MOST_NUMBER, MOST_NUMBER)]),
     "parts": ("b", [()]),
+    "part": ("pb", [(0,), (1,), (2,), (6,), (111,), (112,), (MOST_NUMBER,)]),
+    "weave": ("bc", [()]),
+    "turns": ("bw", [()]),
+    "over": ("pbw", [(0,), (1,), (2,), (6,), (111,), (112,), (MOST_NUMBER,)]),
+    "mend": ("bw", [()]),
 }
+
+WRONG_LISTS = [[], [2], [0, 1, MOST_NUMBER], [MOST_NUMBER] * 1024]
+LONG_LISTS = [[0] * 1025, [1] * 2000, [MOST_NUMBER] * 1025]
+
+
+def fitting_lists(b):
+    """Lists of bits of just the lengths that some call takes beside a right panel's bytes."""
+    crossings = crossed_strands(b)
+    lengths = {len(crossings), len(crossing_parts(b)), len(strand_pieces(b)), b[4] * b[5] + b[6:].count(2)}
+    return [[i // 2 % 2 for i in range(length)] for length in sorted(lengths)]
+
+
+def handed_rows(name, b, lists):
+    """All that can be handed in to a call with b: each row of numbers, then b, then of these lists each it takes."""
+    arguments, rows = CALLS[name]
+    count = len(arguments) - len(rows[0]) - 1
+    for row in rows:
+        for beside in itertools.product(lists, repeat=count):
+            yield [*row, b, *beside]
 
 
 def drawing(b):

@@ -4,19 +4,24 @@ import inspect
 import unittest
 
 from interlace import panels
-from helpers import CALLS, Kept, SOME_SIZES, bad_panels, drawing, long_bytes, mixed, panel, plain
+from helpers import (
+    CALLS, Kept, LONG_LISTS, SOME_SIZES, WRONG_LISTS, bad_panels, drawing, fitting_lists, handed_rows, long_bytes, mixed,
+    panel, plain,
+)
 
 PANELS = [panel(wide, high) for wide, high in SOME_SIZES] + [mixed(5, 6, 1), mixed(8, 8, 2)]
-BYTES = PANELS + bad_panels() + long_bytes()
 DRAWINGS = [drawing(b) for b in PANELS] + [drawing(b)[:-1] for b in PANELS]
+# Bytes, with the lists that are handed in beside them.
+HANDED = [(b, WRONG_LISTS[:3] + LONG_LISTS[:1] + fitting_lists(b)) for b in PANELS]
+HANDED += [(b, WRONG_LISTS[:2]) for b in bad_panels() + long_bytes() + DRAWINGS]
 
 
 def all_calls():
-    """Each call by its name with what is handed in: each row of its numbers with each of its bytes."""
-    for name, (arguments, rows) in CALLS.items():
-        for b in BYTES + (DRAWINGS if arguments == "t" else []):
-            for row in rows:
-                yield name, list(row) + [b]
+    """Each call by its name with what is handed in."""
+    for name in CALLS:
+        for b, lists in HANDED:
+            for handed in handed_rows(name, b, lists):
+                yield name, handed
 
 
 def call(name, handed):
