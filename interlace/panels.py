@@ -4,9 +4,10 @@ from interlace.crossings import count_crossings_with_others, find_crossed, list_
 from interlace.drawings import draw, find_drawing_fault, read_panel
 from interlace.ends import count_ends, count_pieces, find_joined
 from interlace.hanging import count_parts, list_parts
+from interlace.marking import add_marks, count_free, find_wrong_mark, list_members, mark_set
 from interlace.refusals import NOT_RIGHT, NOT_SO, NOT_THERE, TOO_LONG, WRONG_LIST, WRONG_SIGN
-from interlace.refusals import are_bits, find_crossing_refusal, find_list_refusal, find_place_refusal, find_refusal
-from interlace.refusals import find_strand_refusal, find_weave_refusal, is_too_long
+from interlace.refusals import are_bits, find_crossing_refusal, find_list_refusal, find_marks_refusal
+from interlace.refusals import find_place_refusal, find_refusal, find_strand_refusal, find_weave_refusal, is_too_long
 from interlace.shape import CROSSING, HIGH_AT, MOST_SIDE, MOST_SIGN, PLACES_AT, WIDE_AT
 from interlace.shape import count_places, find_fault, find_place, find_square_beyond, find_squares, is_inside
 from interlace.tracing import count_strands, list_courses, list_strands
@@ -215,3 +216,56 @@ def mend(b, w):
     mended = mend_weave(b, w)
     changed = [bit for bit, other in zip(w, mended) if bit != other]
     return [len(changed)] + mended
+
+
+def free(b):
+    """Answer how many marks are free."""
+    refusal = find_refusal(b)
+    if refusal < 0:
+        return [refusal]
+    return [count_free(b)]
+
+
+def marks(b, s):
+    """Answer how many bits the marks of the set s of strands have, then these bits."""
+    refusal = find_list_refusal(b, s)
+    if refusal < 0:
+        return [refusal]
+    if not are_bits(s, count_strands(b)):
+        return [WRONG_LIST]
+    return tell_list(mark_set(b, s))
+
+
+def marked(b, m):
+    """Answer 1 if the marks m are right, else 0 and what is wrong first: the kind, the square or place."""
+    refusal = find_marks_refusal(b, m)
+    if refusal < 0:
+        return [refusal]
+    wrong = find_wrong_mark(b, m)
+    if wrong is None:
+        return [1]
+    return [0, wrong[0], wrong[1]]
+
+
+def set_of(b, m):
+    """Answer how many strands there are, then for each 1 if it is of the set that the marks m mark, else 0."""
+    refusal = find_marks_refusal(b, m)
+    if refusal < 0:
+        return [refusal]
+    if find_wrong_mark(b, m) is not None:
+        return [NOT_SO]
+    return tell_list(list_members(b, m))
+
+
+def plus(b, m, k):
+    """Answer how many bits the marks m and k added have, then these bits."""
+    # The second list's length is refused ahead of all that else is wrong with the first.
+    if is_too_long(k):
+        return [TOO_LONG]
+    for one in (m, k):
+        refusal = find_marks_refusal(b, one)
+        if refusal < 0:
+            return [refusal]
+    if find_wrong_mark(b, m) is not None or find_wrong_mark(b, k) is not None:
+        return [NOT_SO]
+    return tell_list(add_marks(m, k))

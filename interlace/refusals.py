@@ -1,6 +1,7 @@
 """By which number a call is refused, ahead of what it has to say itself."""
 
 from interlace.crossings import list_crossings
+from interlace.marking import count_marks
 from interlace.shape import CROSSING, HIGH_AT, PLACES_AT, WIDE_AT
 from interlace.shape import count_places, find_fault
 from interlace.tracing import count_strands
@@ -77,5 +78,15 @@ def find_weave_refusal(b, w):
     if refusal < 0:
         return refusal
     if not are_bits(w, len(list_crossings(b))):
+        return WRONG_LIST
+    return 0
+
+
+def find_marks_refusal(b, m):
+    """Give the number by which b or the marks m, right or not, are refused, or 0."""
+    refusal = find_list_refusal(b, m)
+    if refusal < 0:
+        return refusal
+    if not are_bits(m, count_marks(b)):
         return WRONG_LIST
     return 0

@@ -248,6 +248,11 @@ def wrong_bits(count):
     return found
 
 
+def across_places(b):
+    """The places of the breaks across, rising."""
+    return [p for p in range(len(b) - 6) if b[6 + p] == 2]
+
+
 def plain(answer):
     """Whether an answer is a list of ints, none of them True or False."""
     return type(answer) is list and all(type(number) is int for number in answer)
@@ -275,6 +280,11 @@ CALLS = {
     "turns": ("bw", [()]),
     "over": ("pbw", [(0,), (1,), (2,), (6,), (111,), (112,), (MOST_NUMBER,)]),
     "mend": ("bw", [()]),
+    "free": ("b", [()]),
+    "marks": ("bs", [()]),
+    "marked": ("bm", [()]),
+    "set_of": ("bm", [()]),
+    "plus": ("bmk", [()]),
 }
 
 WRONG_LISTS = [[], [2], [0, 1, MOST_NUMBER], [MOST_NUMBER] * 1024]
