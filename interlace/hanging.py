@@ -28,6 +28,16 @@ def label_strands(b):
     return labels
 
 
+def list_groups(b):
+    """Give the group of each strand, by the strands' numbers."""
+    return number_labels(label_strands(b))
+
+
+def count_groups(b):
+    """Count the groups of a right panel."""
+    return max(list_groups(b)) + 1
+
+
 def list_parts(b):
     """Give the part of each crossing, by the crossings' places."""
     # Crossings hang together just if their strands do, so a part goes by the label of a strand of it.

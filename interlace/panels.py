@@ -3,8 +3,9 @@
 from interlace.crossings import count_crossings_with_others, find_crossed, list_crossings, list_meetings
 from interlace.drawings import draw, find_drawing_fault, read_panel
 from interlace.ends import count_ends, count_pieces, find_joined
-from interlace.hanging import count_parts, list_parts
+from interlace.hanging import count_groups, count_parts, list_groups, list_parts
 from interlace.marking import add_marks, count_free, find_wrong_mark, list_members, mark_set
+from interlace.mends import are_breaks, break_crossings, find_parting_way, list_fewest
 from interlace.refusals import NOT_RIGHT, NOT_SO, NOT_THERE, TOO_LONG, WRONG_LIST, WRONG_SIGN
 from interlace.refusals import are_bits, find_crossing_refusal, find_list_refusal, find_marks_refusal
 from interlace.refusals import find_place_refusal, find_refusal, find_strand_refusal, find_weave_refusal, is_too_long
@@ -269,3 +270,47 @@ def plus(b, m, k):
     if find_wrong_mark(b, m) is not None or find_wrong_mark(b, k) is not None:
         return [NOT_SO]
     return tell_list(add_marks(m, k))
+
+
+def groups(b):
+    """Answer how many groups the strands have."""
+    refusal = find_refusal(b)
+    if refusal < 0:
+        return [refusal]
+    return [count_groups(b)]
+
+
+def group(k, b):
+    """Answer the group of strand k."""
+    refusal = find_strand_refusal(k, b)
+    if refusal < 0:
+        return [refusal]
+    return [list_groups(b)[k]]
+
+
+def fewest(n, b):
+    """Answer how many crossings are the fewest for n strands, then their places."""
+    refusal = find_refusal(b)
+    if refusal < 0:
+        return [refusal]
+    if n < count_groups(b):
+        return [NOT_SO]
+    return tell_list(list_fewest(n, b))
+
+
+def broken(b, l):
+    """Answer how many bytes the panel has with the breaks l (of each its place, its way), then these bytes."""
+    refusal = find_list_refusal(b, l)
+    if refusal < 0:
+        return [refusal]
+    if not are_breaks(b, l):
+        return [WRONG_LIST]
+    return tell_list(break_crossings(b, l))
+
+
+def parting(p, b):
+    """Answer the parting way of the crossing at place p, or 0 if it is of two strands."""
+    refusal = find_crossing_refusal(p, b)
+    if refusal < 0:
+        return [refusal]
+    return [find_parting_way(p, b)]

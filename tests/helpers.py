@@ -204,6 +204,12 @@ def crossing_parts(b):
 
 
 @told_once
+def strand_groups(b):
+    """The set of strands of each group, by the groups' numbers."""
+    return hung_together(len(strand_pieces(b)), crossed_strands(b).values())
+
+
+@told_once
 def walked_passes(b):
     """Of each strand, by its number, the crossings it passes: the place, and 1 if left at a piece's end, else 0."""
     wide, high = b[4], b[5]
@@ -285,6 +291,11 @@ CALLS = {
     "marked": ("bm", [()]),
     "set_of": ("bm", [()]),
     "plus": ("bmk", [()]),
+    "groups": ("b", [()]),
+    "group": ("kb", [(0,), (1,), (5,), (64,), (MOST_NUMBER,)]),
+    "fewest": ("nb", [(0,), (1,), (2,), (5,), (64,), (MOST_NUMBER,)]),
+    "broken": ("bl", [()]),
+    "parting": ("pb", [(0,), (1,), (2,), (6,), (111,), (112,), (MOST_NUMBER,)]),
 }
 
 WRONG_LISTS = [[], [2], [0, 1, MOST_NUMBER], [MOST_NUMBER] * 1024]
@@ -292,10 +303,11 @@ LONG_LISTS = [[0] * 1025, [1] * 2000, [MOST_NUMBER] * 1025]
 
 
 def fitting_lists(b):
-    """Lists of bits of just the lengths that some call takes beside a right panel's bytes."""
+    """Lists that some call takes beside a right panel's bytes: bits of just the right lengths, and breaks."""
     crossings = crossed_strands(b)
     lengths = {len(crossings), len(crossing_parts(b)), len(strand_pieces(b)), b[4] * b[5] + b[6:].count(2)}
-    return [[i // 2 % 2 for i in range(length)] for length in sorted(lengths)]
+    breaks = [number for p in crossings for number in (p, 1 + p % 2)]
+    return [[i // 2 % 2 for i in range(length)] for length in sorted(lengths)] + [breaks]
 
 
 def handed_rows(name, b, lists):
